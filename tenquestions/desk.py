@@ -1,0 +1,18 @@
+"""The desk: where a line of calls is handed in and its answers are given back."""
+
+from tenquestions.calls import answered, length_of, new_registers
+
+
+def answers(calls):
+    """For each call of the line, in order: how many numbers are answered, then these."""
+    registers = new_registers()
+    given = []
+    at = 0
+    while at < len(calls):
+        number = calls[at]
+        end = at + 1 + length_of(number)
+        answer = answered(registers, number, calls[at + 1:end])
+        given.append(len(answer))
+        given.extend(answer)
+        at = end
+    return given

@@ -1,0 +1,70 @@
+"""Functions of the ten variables, and how one is made from others.
+
+A function is a list with a number for each case: 0 where it says no, 1 where it says yes.
+Such a list is never changed once it is made, so one list may stand for a function in several places.
+"""
+
+CASES = 1024
+
+# The numbers of "two" by which a case is yes if either says yes, and if both do.
+EITHER = 14
+BOTH = 8
+
+
+def bit(number, place):
+    """The bit of the number that is worth 2 to the power of the place."""
+    return (number >> place) & 1
+
+
+def everywhere(said):
+    """The function that says the same in each case."""
+    return [said] * CASES
+
+
+def variable(v):
+    """The function that says yes in the cases in which the variable is yes."""
+    return [bit(case, v) for case in range(CASES)]
+
+
+def opposite(function):
+    """The function that says yes where the other says no."""
+    return [1 - said for said in function]
+
+
+def joined(op, first, second):
+    """The function that says, where the first says x and the second y, bit 2 x + y of op."""
+    said = [bit(op, place) for place in range(4)]
+    return [said[2 * x + y] for x, y in zip(first, second)]
+
+
+def chosen(asked, if_yes, if_no):
+    """The function that says what if_yes says where asked says yes, else what if_no says."""
+    return [y if x == 1 else n for x, y, n in zip(asked, if_yes, if_no)]
+
+
+def case_with(case, v, said):
+    """The case that is like this one, but that the variable is as said."""
+    worth = 1 << v
+    if said == 1:
+        return case | worth
+    return (case | worth) - worth
+
+
+def fixed(function, v, said):
+    """The function that says what the other says if the variable is as said."""
+    return [function[case_with(case, v, said)] for case in range(CASES)]
+
+
+def for_either(function, v):
+    """The function that says whether the other says yes for v no, or for v yes."""
+    return joined(EITHER, fixed(function, v, 0), fixed(function, v, 1))
+
+
+def for_both(function, v):
+    """The function that says whether the other says yes for v no and for v yes."""
+    return joined(BOTH, fixed(function, v, 0), fixed(function, v, 1))
+
+
+def how_many(function):
+    """In how many cases the function says yes."""
+    return sum(function)
