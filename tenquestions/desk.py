@@ -1,6 +1,6 @@
 """The desk: where a line of calls is handed in and its answers are given back."""
 
-from tenquestions.calls import answered, length_of, new_registers
+from tenquestions.calls import answered, end_of_call, new_registers
 
 
 def answers(calls):
@@ -9,9 +9,8 @@ def answers(calls):
     given = []
     at = 0
     while at < len(calls):
-        number = calls[at]
-        end = at + 1 + length_of(number)
-        answer = answered(registers, number, calls[at + 1:end])
+        end = end_of_call(calls, at)
+        answer = answered(registers, calls[at], calls[at + 1:end])
         given.append(len(answer))
         given.extend(answer)
         at = end

@@ -4,11 +4,13 @@ A function is a list with a number for each case: 0 where it says no, 1 where it
 Such a list is never changed once it is made, so one list may stand for a function in several places.
 """
 
+VARIABLES = 10
 CASES = 1024
 
-# The numbers of "two" by which a case is yes if either says yes, and if both do.
+# The numbers of "two" by which a case is yes if either says yes, if both do, and if the first alone does.
 EITHER = 14
 BOTH = 8
+FIRST_ALONE = 4
 
 
 def bit(number, place):
@@ -65,6 +67,37 @@ def for_both(function, v):
     return joined(BOTH, fixed(function, v, 0), fixed(function, v, 1))
 
 
+def put_for(function, v, other):
+    """The function that says what the one says if the variable is what the other says."""
+    return [function[case_with(case, v, said)] for case, said in enumerate(other)]
+
+
 def how_many(function):
     """In how many cases the function says yes."""
     return sum(function)
+
+
+def first_yes(function, start):
+    """The least case from the start on in which the function says yes; None if there's none."""
+    for case in range(start, CASES):
+        if function[case] == 1:
+            return case
+    return None
+
+
+def first_outside(function, other):
+    """The least case in which the function says yes, the other no; None if there's none."""
+    return first_yes(joined(FIRST_ALONE, function, other), 0)
+
+
+def does_matter(function, v):
+    """Whether the function says yes in one, no in the other of two cases that differ in v alone."""
+    for case in range(CASES):
+        if function[case] != function[case_with(case, v, 1)]:
+            return True
+    return False
+
+
+def mattering(function):
+    """The variables that matter to the function, rising."""
+    return [v for v in range(VARIABLES) if does_matter(function, v)]

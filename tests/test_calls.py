@@ -1,43 +1,21 @@
 """D1 by the interface: what is in a register is the function that was said."""
 
-import random
 import unittest
 
+from examples import MAJORITY, majority, random_calls
 from reckoning import (
-    ALL_CASES, GREATEST, PLACES, Reckoning, cases_read, cases_where, told, with_value, yes,
+    ALL_CASES, NAMES, cases_read, cases_where, last_told, reckoned, told, values_read,
+    with_value, yes,
 )
 
-MAJORITY = [
-    ("var", 0, 0), ("var", 1, 4), ("var", 2, 9),
-    ("two", 3, 8, 0, 1), ("two", 4, 14, 0, 1), ("choose", 5, 2, 4, 3),
-]
-
-
-def majority(m):
-    return yes(m, 0) + yes(m, 4) + yes(m, 9) >= 2
-
-
-def random_calls(seed, most, wrong=0.0):
-    """A line of calls, mostly of those that join registers; a share of them with a wrong number."""
-    chance = random.Random(seed)
-    calls = [("var", r, r % 10) for r in range(16)]
-    chance.shuffle(calls)
-    names = ["const", "var", "not", "fix", "some", "all"] + 4 * ["two", "choose"]
-    while len(calls) < most:
-        name = chance.choice(names)
-        numbers = [chance.randint(0, GREATEST[place]) for place in PLACES[name]]
-        if chance.random() < wrong:
-            at = chance.randrange(len(numbers))
-            numbers[at] = GREATEST[PLACES[name][at]] + chance.choice([1, 2, 16, 2**32])
-        calls.append((name, *numbers))
-    return calls
+# Those that join registers come often: so the functions stay uneven.
+MAKING = ("const", "var", "not", "fix", "some", "all", "put") + 4 * ("two", "choose")
 
 
 class Calls(unittest.TestCase):
     def check(self, calls, *registers):
         """Holds each answer, and the named registers in each case, against the reckoning."""
-        reckoning = Reckoning()
-        wanted = [reckoning.call(*call) for call in calls]
+        reckoning, wanted = reckoned(calls)
         self.assertEqual(told(calls), wanted)
         for r in registers:
             self.assertEqual(cases_read(calls, r), reckoning.sets[r], r)
@@ -123,6 +101,59 @@ class Calls(unittest.TestCase):
             self.assertEqual(cases_read(calls, 14), some, v)
             self.assertEqual(cases_read(calls, 15), both, v)
 
+    def test_put(self):
+        # Variable 4 becomes: variable 7 or 9, which the majority doesn't ask and asks.
+        calls = MAJORITY + [("var", 6, 7), ("two", 7, 14, 6, 2), ("put", 15, 5, 4, 7)]
+        wanted = cases_where(
+            lambda m: majority(with_value(m, 4, 1 if yes(m, 7) or yes(m, 9) else 0)))
+        self.assertEqual(last_told(calls), [len(wanted)])
+        self.assertEqual(cases_read(calls, 15), wanted)
+        self.assertEqual(values_read(calls, 15), wanted)
+        self.check(calls, 5, 7)
+
+    def test_put_a_variable_for_each(self):
+        for v in range(10):
+            for w in range(10):
+                calls = [("var", 0, v), ("var", 1, w), ("put", 2, 0, v, 1), ("two", 3, 6, 1, 2),
+                         ("const", 4, 1), ("put", 5, 0, w, 4)]
+                wanted = [[512], [512], [512], [0], [1024], [1024 if v == w else 512]]
+                self.assertEqual(told(calls), wanted, (v, w))
+
+    def test_put_what_says_the_same_everywhere_fixes(self):
+        for v in (0, 4, 9, 3):
+            for z in (0, 1):
+                calls = MAJORITY + [("const", 6, z), ("put", 7, 5, v, 6), ("fix", 8, 5, v, z),
+                                    ("two", 9, 6, 7, 8)]
+                self.assertEqual(last_told(calls), [0], (v, z))
+                self.check(calls)
+
+    def test_put_for_a_variable_that_does_not_matter_changes_nothing(self):
+        for v in (1, 2, 3, 5, 6, 7, 8):
+            calls = MAJORITY + [("put", 6, 5, v, 3), ("two", 7, 6, 5, 6)]
+            self.assertEqual(told(calls)[-2:], [[512], [0]], v)
+
+    def test_put_what_hangs_on_the_variable_itself(self):
+        # The other way round; and the variable or another one.
+        calls = MAJORITY + [("not", 6, 1), ("put", 7, 5, 4, 6)]
+        flipped = cases_where(lambda m: majority(m ^ 16))
+        self.assertEqual(cases_read(calls, 7), flipped)
+        calls = MAJORITY + [("var", 6, 6), ("two", 6, 14, 1, 6), ("put", 7, 5, 4, 6)]
+        self.assertEqual(
+            cases_read(calls, 7),
+            cases_where(lambda m: majority(with_value(m, 4, 1 if yes(m, 4) or yes(m, 6) else 0))))
+        self.check(calls, 5)
+
+    def test_put_where_all_are_the_same_register(self):
+        for v in (0, 4, 9, 3):
+            calls = MAJORITY + [("put", 5, 5, v, 5)]
+            wanted = cases_where(lambda m: majority(with_value(m, v, 1 if majority(m) else 0)))
+            self.assertEqual(last_told(calls), [len(wanted)], v)
+            self.assertEqual(cases_read(calls, 5), wanted, v)
+        # A variable put for itself is as it was; what turns it round turns it twice.
+        self.assertEqual(told([("var", 3, 8), ("put", 3, 3, 8, 3)]), [[512], [512]])
+        self.assertEqual(told([("var", 3, 8), ("not", 3, 3), ("put", 3, 3, 8, 3), ("value", 3, 0),
+                               ("value", 3, 256)])[2:], [[512], [0], [1]])
+
     def test_answers_of_nought_one_and_all(self):
         ands = [("const", 0, 1)]
         for v in range(10):
@@ -198,40 +229,56 @@ class WrittenAlsoRead(unittest.TestCase):
         [("some", 0, 0, 0), ("some", 0, 0, 1)],
         [("all", 0, 0, 2)],
         [("all", 0, 0, 1), ("all", 0, 0, 2)],
+        [("put", 0, 0, 2, 1)],
+        [("put", 0, 1, 9, 0)],
+        [("put", 0, 0, 1, 0)],
+        [("put", 0, 0, 0, 0), ("put", 0, 0, 2, 0)],
     )
 
     def test_each_call(self):
         for calls in self.ALIKE:
-            reckoning = Reckoning()
-            wanted = [reckoning.call(*call) for call in self.START + calls]
+            reckoning, wanted = reckoned(self.START + calls)
             self.assertEqual(told(self.START + calls), wanted, calls)
             self.assertEqual(cases_read(self.START + calls, 0), reckoning.sets[0], calls)
 
     def test_what_was_made_from_a_register_stays_when_that_is_written_anew(self):
         for name, rest in (("not", (0,)), ("two", (12, 0, 0)), ("choose", (0, 0, 0)),
-                           ("fix", (0, 7, 1)), ("some", (0, 7)), ("all", (0, 7))):
+                           ("fix", (0, 7, 1)), ("some", (0, 7)), ("all", (0, 7)),
+                           ("put", (0, 7, 2))):
             calls = self.START + [(name, 15, *rest), ("const", 0, 1)]
-            reckoning = Reckoning()
-            for call in calls:
-                reckoning.call(*call)
+            reckoning, wanted = reckoned(calls)
+            self.assertEqual(told(calls), wanted, name)
             self.assertEqual(cases_read(calls, 15), reckoning.sets[15], name)
             self.assertEqual(cases_read(calls, 0), ALL_CASES, name)
 
 
 class RandomLines(unittest.TestCase):
-    def test_lines_of_a_hundred_calls(self):
+    def test_lines_of_a_hundred_calls_that_put_functions_into_registers(self):
         for seed in range(60):
-            calls = random_calls(seed, 100, wrong=0.1 if seed % 2 else 0.0)
-            reckoning = Reckoning()
-            wanted = [reckoning.call(*call) for call in calls]
-            self.assertEqual(told(calls), wanted, seed)
+            calls = random_calls(seed, 100, MAKING, wrong=0.1 if seed % 2 else 0.0)
+            self.assertEqual(told(calls), reckoned(calls)[1], seed)
+
+    def test_lines_of_a_hundred_calls_that_mix_all_sixteen(self):
+        asked = dict.fromkeys(NAMES, 0)
+        refusals = set()
+        for seed in range(60):
+            names = NAMES + 2 * ("choose", "two") if seed % 3 else NAMES
+            calls = random_calls(1000 + seed, 100, names, wrong=0.1 if seed % 2 else 0.0)
+            given = told(calls)
+            self.assertEqual(given, reckoned(calls)[1], seed)
+            for call, answer in zip(calls, given):
+                asked[call[0]] += 1
+                refusals.add((call[0], min(answer[0], 0)))
+        # That the lines are a test of each call and of each refusal at all.
+        self.assertGreater(min(asked.values()), 100)
+        for name in NAMES:
+            self.assertTrue({(name, 0), (name, -1)} <= refusals, name)
+        self.assertTrue({("first", -5), ("best", -6)} <= refusals)
 
     def test_each_case_behind_lines_of_fifty_calls(self):
         for seed in range(100, 106):
-            calls = random_calls(seed, 50, wrong=0.05)
-            reckoning = Reckoning()
-            for call in calls:
-                reckoning.call(*call)
+            calls = random_calls(seed, 50, MAKING, wrong=0.05)
+            reckoning = reckoned(calls)[0]
             for r in (0, 7, 15):
                 self.assertEqual(cases_read(calls, r), reckoning.sets[r], (seed, r))
 

@@ -2,21 +2,14 @@
 
 import unittest
 
-from reckoning import ALL_CASES, cases_where, with_value, yes
+from examples import majority, parity
+from reckoning import ALL_CASES, cases_where, mattering, with_value
 from tenquestions import functions
 
 
 def table(says_yes):
     """The package's form of a function, from a Python function of the case."""
     return [1 if says_yes(m) else 0 for m in range(1024)]
-
-
-def majority(m):
-    return yes(m, 0) + yes(m, 4) + yes(m, 9) >= 2
-
-
-def parity(m):
-    return sum(yes(m, v) for v in range(10)) % 2 == 1
 
 
 def sparse(m):
@@ -37,7 +30,7 @@ class Functions(unittest.TestCase):
 
     def test_a_variable_is_its_bit_of_the_case(self):
         for v in range(10):
-            self.assertEqual(functions.variable(v), table(lambda m: yes(m, v)), v)
+            self.assertEqual(functions.variable(v), [m // 2**v % 2 for m in range(1024)], v)
         self.assertEqual(functions.variable(0)[:4], [0, 1, 0, 1])
         self.assertEqual(functions.variable(9)[510:514], [0, 0, 1, 1])
 
@@ -70,6 +63,19 @@ class Functions(unittest.TestCase):
                 self.assertEqual(functions.for_either(table(f), v), either, (f, v))
                 self.assertEqual(functions.for_both(table(f), v), both, (f, v))
 
+    def test_a_function_put_for_a_variable(self):
+        for f in EXAMPLES:
+            for g in EXAMPLES:
+                for v in (0, 4, 9):
+                    wanted = table(lambda m: f(with_value(m, v, 1 if g(m) else 0)))
+                    self.assertEqual(functions.put_for(table(f), v, table(g)), wanted, (f, g, v))
+
+    def test_the_variables_that_matter(self):
+        for f in EXAMPLES:
+            self.assertEqual(functions.mattering(table(f)), mattering(cases_where(f)), f)
+        self.assertEqual(functions.mattering(table(lambda m: False)), [])
+        self.assertEqual(functions.mattering(table(lambda m: True)), [])
+
     def test_how_many(self):
         self.assertEqual(functions.how_many(table(lambda m: False)), 0)
         self.assertEqual(functions.how_many(table(lambda m: True)), 1024)
@@ -84,6 +90,10 @@ class Functions(unittest.TestCase):
         functions.fixed(first, 4, 1)
         functions.for_either(first, 4)
         functions.for_both(first, 4)
+        functions.put_for(first, 4, second)
+        functions.mattering(first)
+        functions.first_yes(first, 3)
+        functions.first_outside(first, second)
         self.assertEqual(first, table(majority))
         self.assertEqual(second, table(product))
         self.assertEqual(third, table(parity))
